@@ -1,0 +1,1 @@
+"""Ownclocks: stations on belts, each at a clock of its own."""

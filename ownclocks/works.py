@@ -97,6 +97,10 @@ def door(works, station):
     return [(feed[1], feed[2]) for feed in sorted(feeds, key=lambda feed: feed[1])]
 
 
+def door_events(works, station):
+    return [(fed[0], DOOR, fed[1]) for fed in door(works, station)]
+
+
 def leaving(works, station):
     return [number for number, belt in enumerate(works[1]) if belt[0] == station]
 
